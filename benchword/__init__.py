@@ -1,0 +1,1 @@
+"""Speeches before a bench, and its word on each."""
