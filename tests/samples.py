@@ -83,6 +83,44 @@ def small_benches():
             yield Bench(names, [pair for pair, taken in zip(every, chosen) if taken])
 
 
+def mixed_benches():
+    """Benches of four to eight speeches, with few and with many pairs, the same ones each time."""
+    state = 7
+    for many in (4, 5, 6, 7, 8):
+        for weight in (1, 2, 3, 5):
+            names, pairs = EIGHT[:many], []
+            for pair in product(names, names):
+                state = (state * 1103515245 + 12345) % 2 ** 31
+                if state // 65536 % 16 < weight and (pair[0] != pair[1] or state % 3 == 0):
+                    pairs.append(pair)
+            yield Bench(names, pairs)
+
+
+def rows_of_eight():
+    """Benches of eight speeches that ask for much: no pair, all pairs, rows, rings and couples."""
+    every = list(product(EIGHT, EIGHT))
+    following = list(zip(EIGHT, EIGHT[1:]))
+    couples = list(zip(EIGHT[::2], EIGHT[1::2]))
+    return [
+        Bench(EIGHT, ()), Bench(EIGHT, every), Bench(EIGHT, every[1:]),
+        Bench(EIGHT, [(one, other) for one, other in every if one != other]),
+        Bench(EIGHT, following), Bench(EIGHT, following + [(EIGHT[-1], EIGHT[0])]),
+        Bench(EIGHT, couples + [(other, one) for one, other in couples])]
+
+
+def all_benches():
+    """All the benches of this file, as a list."""
+    return known_benches() + list(small_benches()) + list(mixed_benches()) + rows_of_eight()
+
+
+def every_set(names):
+    """Each set of these names as a rising tuple, by size, of one size rising."""
+    found = []
+    for taken in product((False, True), repeat=len(names)):
+        found.append(tuple(sorted(name for name, is_in in zip(names, taken) if is_in)))
+    return sorted(found, key=lambda chosen: (len(chosen), chosen))
+
+
 def known_benches():
     """The benches of the table above."""
     return [Bench(names, pairs) for names, pairs, _ in WORDED.values()]

@@ -3,7 +3,7 @@
 import inspect
 import unittest
 
-from benchword import benches, words
+from benchword import benches, notes, papers, views, words
 
 LISTED = (
     (benches, "is_name", ["thing"]),
@@ -11,6 +11,15 @@ LISTED = (
     (benches, "without", ["bench", "names"]),
     (benches, "beside", ["one", "other"]),
     (words, "words", ["bench"]),
+    (papers, "paper", ["bench", "name"]),
+    (papers, "fair", ["bench", "paper"]),
+    (views, "stands", ["bench", "names"]),
+    (views, "views", ["bench"]),
+    (views, "greatest", ["bench"]),
+    (views, "closed", ["bench"]),
+    (views, "least_off", ["bench", "name"]),
+    (notes, "written", ["bench"]),
+    (notes, "read", ["text"]),
 )
 
 
@@ -35,6 +44,15 @@ class Interface(unittest.TestCase):
             benches.beside(one=bench, other=benches.Bench((), ())).names, ("a", "b"))
         self.assertEqual(words.words(bench=bench)["a"], ("held", 1))
         self.assertIs(benches.is_name(thing="a"), True)
+        self.assertEqual(papers.paper(bench=bench, name="a"), [("a", ())])
+        self.assertIs(papers.fair(bench=bench, paper=[("a", ())]), True)
+        self.assertIs(views.stands(bench=bench, names=["a"]), True)
+        self.assertEqual(views.views(bench=bench), [(), ("a",)])
+        self.assertEqual(views.greatest(bench=bench), [("a",)])
+        self.assertEqual(views.closed(bench=bench), [("a",)])
+        self.assertEqual(views.least_off(bench=bench, name="b"), ("a",))
+        text = notes.written(bench=bench)
+        self.assertEqual(notes.read(text=text).pairs, (("a", "b"),))
 
 
 if __name__ == "__main__":
